@@ -1,0 +1,1 @@
+"""What gets lost between message formats, and their common formats."""
