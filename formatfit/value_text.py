@@ -2,7 +2,7 @@
 
 from formatfit.errors import BadValue, EndError, SignError
 from formatfit.values import FIGURES, INTEGER, LETTERS, LIST, RECORD, TEXT
-from formatfit.values import is_value, kind_of, sorted_fields
+from formatfit.values import is_ascending, is_value, kind_of, sorted_fields
 
 CLOSING = {"[": "]", "{": "}", "(": ")"}
 # The number of characters of -1000000, the longest integer within the bounds.
@@ -30,10 +30,6 @@ class Opened:
         self.sign = sign
         self.labels = labels
         self.parts = []
-
-    def is_ascending(self):
-        """Tell whether the names of the fields are strictly ascending."""
-        return all([label < later for label, later in zip(self.labels, self.labels[1:])])
 
     def closed(self):
         """Return the value whose parts have all been read."""
@@ -153,7 +149,7 @@ class Scan:
         self.take(CLOSING[part.sign])
         around.pop()
         # A dict does not tell in which order the fields stood, nor whether one stood twice.
-        self.fits = self.fits and part.is_ascending()
+        self.fits = self.fits and is_ascending(part.labels)
         return part.closed()
 
 

@@ -28,6 +28,11 @@ def _has_only(text, signs):
     return all([sign in signs for sign in text])
 
 
+def is_ascending(names):
+    """Tell whether the names of a list are strictly ascending."""
+    return all([name < later for name, later in zip(names, names[1:])])
+
+
 def kind_of(value):
     """Return the number of the kind of a value."""
     if isinstance(value, int):
@@ -157,21 +162,28 @@ def compare_values(first, second):
 
 def copy_of(value):
     """Return an equal value that shares nothing with this one, and whose records have ascending names."""
-    kind = kind_of(value)
-    if kind == LIST:
-        return [copy_of(part) for part in value]
-    if kind == RECORD:
-        return {name: copy_of(part) for name, part in sorted_fields(value)}
-    if kind == CHOICE:
+    if kind_of(value) == CHOICE:
         return (value[0], copy_of(value[1]))
-    return value
+    if not _has_depth(value):
+        return value
+    # A comprehension may count as a call of its own, and a value can be some hundred deep.
+    parts = []
+    for part in parts_of(value):
+        parts.append(copy_of(part))
+    return parts if kind_of(value) == LIST else dict(zip(sorted(value), parts))
 
 
-def least_of(values):
-    """Return the least value of a list in which None counts as nothing, or None."""
+def least_among(values):
+    """Return the least value of a list in which None counts as nothing, itself, or None."""
     least = None
     for value in values:
         if value is not None and (least is None or compare_values(value, least) < 0):
             least = value
+    return least
+
+
+def least_of(values):
+    """Return the least value of a list in which None counts as nothing, or None."""
+    least = least_among(values)
     # The caller's own value may have its names in another order, and what is returned is new.
     return None if least is None else copy_of(least)
