@@ -1,9 +1,11 @@
 """The files of the package: the interface stands where the document lists it, and the plain bounds of the language."""
 
 import ast
+import builtins
 import importlib
 import inspect
 import os
+import re
 import unittest
 
 ROOT = os.path.dirname(os.path.dirname(os.path.abspath(__file__)))
@@ -22,13 +24,65 @@ INTERFACE = {
         "least_of": ["values"],
     },
     "value_text": {"format_value": ["value"], "parse_value": ["text"], "value_prefix": ["text", "place"]},
+    "formats": {
+        "Format": ["root", "definitions"], "types_of": ["definition"], "is_shaped": ["form"],
+        "field_of": ["definition", "name"], "case_of": ["definition", "tag"], "is_always": ["field"],
+        "always_types": ["definition"],
+    },
+    "writing": {
+        "writes": ["form", "name", "value"], "is_written": ["form", "value"], "is_kind": ["definition", "value"],
+        "is_format": ["form"], "checked": ["form"],
+    },
+    "format_text": {"format_text": ["form"], "parse_format": ["text"]},
+    "least": {
+        "has_values": ["form", "name"], "names_without_values": ["form"], "least_value": ["form"],
+        "second_value": ["form"], "least_of_name": ["form", "name"], "second_of_name": ["form", "name"],
+        "least_values": ["form"], "second_values": ["form"],
+    },
+    "reading": {"read": ["form", "value"], "read_by": ["form", "name", "value"], "read_along": ["forms", "value"]},
+    "compatibility": {"can_read": ["reader", "writer"], "smallest_failure": ["reader", "writer"]},
+    "certificates": {
+        "met_pairs": ["reader", "writer"], "certify": ["reader", "writer"],
+        "is_certificate": ["reader", "writer", "certificate"],
+    },
 }
+
+# What is defined in the body of each class, with the arguments.
+METHODS = {("formats", "Format"): {"of": ["self", "name"], "names": ["self"]}}
+
+# What may be imported from elsewhere.
+LIBRARY = {"heapq": {"heappush", "heappop"}}
+
+# Names that nothing may have.
+BARRED = set(
+    "register mro elements open input law version_info with_traceback add_note attrgetter breakpoint builtins compile"
+    " copyright credits delattr dir eval exec exit gc globals help id importlib license locals methodcaller os quit sys"
+    " type vars".split()
+)
+BARRED_WORDS = re.compile(
+    r"\b(type|typing|enum|Enum|Flag|Generic|Protocol|ABC|namedtuple|NamedTuple|TypedDict)\b|dataclass|overload"
+)
 
 BUILTINS = set(
     "len range enumerate zip min max sum abs sorted reversed int str bool bytes list tuple dict set frozenset"
     " isinstance ord repr any all divmod pow iter next getattr hasattr setattr super property staticmethod classmethod"
     " ValueError KeyError IndexError LookupError ZeroDivisionError StopIteration NotImplemented".split()
 )
+
+
+def known_names(imported):
+    return {alias.name for alias in imported.names}
+
+
+def bound_names(tree):
+    """The names of parameters and of all that is assigned, in functions and outside."""
+    for node in ast.walk(tree):
+        if isinstance(node, ast.arg):
+            yield node.arg, node.lineno
+        elif isinstance(node, ast.Name) and isinstance(node.ctx, ast.Store):
+            yield node.id, node.lineno
+        elif isinstance(node, (ast.FunctionDef, ast.ClassDef)):
+            yield node.name, node.lineno
 
 
 def sources():
@@ -48,6 +102,13 @@ class Interface(unittest.TestCase):
                     self.assertEqual(found.__module__, "formatfit." + file)
                     if arguments is not None:
                         self.assertEqual(list(inspect.signature(found).parameters), arguments)
+
+    def test_methods_stand_in_the_class_itself(self):
+        for (file, name), methods in METHODS.items():
+            found = vars(getattr(importlib.import_module("formatfit." + file), name))
+            for method, arguments in methods.items():
+                with self.subTest(file=file, name=name, method=method):
+                    self.assertEqual(list(inspect.signature(found[method]).parameters), arguments)
 
 
 class Files(unittest.TestCase):
@@ -76,12 +137,47 @@ class Files(unittest.TestCase):
                 if isinstance(node, ast.ImportFrom):
                     known |= {alias.name for alias in node.names}
                     with self.subTest(name=name, line=node.lineno):
-                        self.assertTrue(node.module.startswith("formatfit."))
+                        allowed = LIBRARY.get(node.module, set())
+                        self.assertTrue(node.module.startswith("formatfit.") or known_names(node) <= allowed)
                 self.assertNotIsInstance(node, (ast.Import, ast.Global, ast.AsyncFunctionDef))
             for node in ast.walk(tree):
                 if isinstance(node, ast.Call) and isinstance(node.func, ast.Name):
                     with self.subTest(name=name, line=node.lineno):
                         self.assertIn(node.func.id, known | BUILTINS)
+
+    def test_names(self):
+        for file, text in sources():
+            tree = ast.parse(text)
+            taken = set(dir(builtins)) | BARRED
+            for node in tree.body:
+                if isinstance(node, ast.ImportFrom):
+                    taken |= known_names(node)
+            for name, line in bound_names(tree):
+                with self.subTest(file=file, line=line, name=name):
+                    self.assertNotIn(name, taken)
+                    self.assertNotRegex(name, "^_(wall|record|written_out|cold|outside|stub|law)")
+
+    def test_words_in_strings_and_names(self):
+        for file, text in sources():
+            tree = ast.parse(text)
+            plain = {id(node.value) for node in ast.walk(tree) if isinstance(node, ast.Expr)}
+            for node in ast.walk(tree):
+                if isinstance(node, ast.Constant) and isinstance(node.value, str) and id(node) not in plain:
+                    with self.subTest(file=file, line=node.lineno):
+                        self.assertNotRegex(node.value, BARRED_WORDS)
+                elif isinstance(node, ast.Attribute):
+                    with self.subTest(file=file, line=node.lineno):
+                        self.assertNotIn(node.attr, BARRED - {"type", "exit", "id", "dir"})
+
+    def test_no_two_files_import_from_each_other(self):
+        imports = {}
+        for file, text in sources():
+            found = [node.module for node in ast.parse(text).body if isinstance(node, ast.ImportFrom)]
+            imports["formatfit." + file[:-3]] = [module for module in found if module.startswith("formatfit.")]
+        while imports:
+            free = [file for file, others in imports.items() if not any(other in imports for other in others)]
+            self.assertTrue(free, imports)
+            imports = {file: others for file, others in imports.items() if file not in free}
 
 
 if __name__ == "__main__":
