@@ -34,6 +34,17 @@ def types_of(definition):
     return []
 
 
+def renamed(definition, names):
+    """Return a definition with other types: each one is replaced by what a dict has for it."""
+    if definition[0] == "list":
+        return ("list", names[definition[1]], definition[2], definition[3])
+    if definition[0] == "record":
+        return ("record", tuple([(field[0], names[field[1]], *field[2:]) for field in definition[1]]))
+    if definition[0] == "choice":
+        return ("choice", tuple([(tag, names[inner]) for tag, inner in definition[1]]), definition[2])
+    return definition
+
+
 def field_of(definition, name):
     """Return the field of this name of a record definition, or None."""
     if definition[0] == "record":

@@ -11,8 +11,8 @@ def least_key(name):
     return ("least", name)
 
 
-def _second_key(name):
-    """Return the key of the values that a definition writes, except its least one."""
+def second_key(name):
+    """Return the key of the values that a definition writes, but for its least one."""
     return ("second", name)
 
 
@@ -34,6 +34,15 @@ def record_rule(definition, changed, key):
         elif is_always(field):
             named.append((field[0], least_key(field[1])))
     return fields_rule(named)
+
+
+def changed_lists(definition, key):
+    """Return the rules of the least lists of a definition that have an element of this key, if they can have any."""
+    _, inner, shortest, longest = definition
+    if longest == 0:
+        return []
+    # The last element: a list is the greater the further to the front it has a greater one.
+    return [list_rule([least_key(inner)] * (max(shortest, 1) - 1) + [key])]
 
 
 def rules_of_definition(definition):
@@ -59,10 +68,7 @@ def least_rules(form):
 
 def _second_of_list(definition):
     _, inner, shortest, longest = definition
-    rules = []
-    if shortest >= 1:
-        # The last element: a list is the greater the further to the front it has a greater one.
-        rules.append(list_rule([least_key(inner)] * (shortest - 1) + [_second_key(inner)]))
+    rules = changed_lists(definition, second_key(inner))
     if shortest < longest:
         rules.append(list_rule([least_key(inner)] * (shortest + 1)))
     return rules
@@ -71,17 +77,20 @@ def _second_of_list(definition):
 def _second_of_record(definition):
     rules = []
     for field in definition[1]:
-        key = _second_key(field[1]) if is_always(field) else least_key(field[1])
+        key = second_key(field[1]) if is_always(field) else least_key(field[1])
         rules.append(record_rule(definition, field[0], key))
     return rules
 
 
-def _least_tag(definition, least):
-    """Return the tag of the least value of a choice definition, or of any of its values if they are all too large."""
+def least_tag(tagged_keys, least):
+    """Return the tag of the least choice, or of any one if they are all too large, or None if there is none.
+
+    The tags come with the keys of their values, the least of which are told.
+    """
     values = []
     tags = []
-    for tag, inner in definition[1]:
-        kind, value = least[least_key(inner)]
+    for tag, key in tagged_keys:
+        kind, value = least[key]
         if kind == "value":
             values.append((tag, value))
         elif kind == "large":
@@ -93,9 +102,9 @@ def _least_tag(definition, least):
 
 def _second_of_choice(definition, least):
     rules = []
-    least_tag = _least_tag(definition, least)
+    first = least_tag([(tag, least_key(inner)) for tag, inner in definition[1]], least)
     for tag, inner in definition[1]:
-        rules.append(choice_rule(tag, _second_key(inner) if tag == least_tag else least_key(inner)))
+        rules.append(choice_rule(tag, second_key(inner) if tag == first else least_key(inner)))
     return rules
 
 
@@ -123,14 +132,19 @@ def _all_least(form):
     return {name: told[least_key(name)] for name in form.names()}
 
 
-def _all_second(form):
-    """Return what is told of the second value of each definition, by its name."""
+def second_rules(form):
+    """Return the rules of the second values of all definitions, and of the least ones."""
     rules = least_rules(form)
     least = solved(rules)
     for name in form.names():
-        rules[_second_key(name)] = _second_of_definition(form.of(name), least)
-    told = solved(rules)
-    return {name: told[_second_key(name)] for name in form.names()}
+        rules[second_key(name)] = _second_of_definition(form.of(name), least)
+    return rules
+
+
+def _all_second(form):
+    """Return what is told of the second value of each definition, by its name."""
+    told = solved(second_rules(form))
+    return {name: told[second_key(name)] for name in form.names()}
 
 
 def names_with_values(form):

@@ -1,9 +1,10 @@
 """Sets of values that are told by rules, and the least values of them.
 
-Each set has a key, a tuple of texts. Each of its rules is a tuple (kind, what, keys): "value" with a value and no
-keys; "list" with None and the keys of the elements; "record" with the names, ascending, and the keys of the fields;
-"choice" with the tag and the one key of its value. A rule puts a value together of any values of the sets that its
-keys name. A least value is put together of least values, because a value with a lesser part is less.
+Each set has a key, a tuple of a word and of texts or numbers, so that any two keys have an order. Each of its rules is
+a tuple (kind, what, keys): "value" with a value and no keys; "list" with None and the keys of the elements; "record"
+with the names, ascending, and the keys of the fields; "choice" with the tag and the one key of its value. A rule puts
+a value together of any values of the sets that its keys name. A least value is put together of least values, because
+a value with a lesser part is less.
 """
 
 from heapq import heappop, heappush

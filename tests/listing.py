@@ -5,6 +5,7 @@ Nothing here is fast: values are listed by their size, all of a size before any 
 
 import functools
 import itertools
+import random
 
 from formatfit.formats import Format
 from formatfit.values import compare_values
@@ -244,3 +245,81 @@ def in_circles(presences, shortest):
             ("list", others[0], shortest, 9),
         ][at % 3]
     return Format("n00", rows)
+
+
+def looser_definition(source, definition, types):
+    """A definition that reads what another one writes, if its types do; defaults and fallbacks are True."""
+    kind = definition[0]
+    if kind == "any" or source.random() < 0.06:
+        return ("any",)
+    if kind == "integer":
+        return (kind, definition[1] - source.randint(0, 1), definition[2] + source.randint(0, 1))
+    if kind == "text":
+        return (kind, definition[1] + source.randint(0, 1))
+    if kind == "list":
+        shortest = max(0, definition[2] - source.randint(0, 1))
+        return (kind, source.choice(types[definition[1]]), shortest, definition[3] + source.randint(0, 1))
+    some = [part for part in definition[1] if source.random() < 0.75] or [source.choice([*definition[1], None])]
+    more = {part[0]: part for part in some if part is not None}
+    kept = sorted(more)
+    if source.random() < 0.2 or (kind == "choice" and not more):
+        more["d"] = ("d", source.choice(sorted(types)), "optional")
+    if kind == "choice":
+        cases = tuple((tag, source.choice(types[more[tag][1]])) for tag in sorted(more))
+        return (kind, cases, True if len(kept) < len(definition[1]) else source.choice([None, True]))
+    fields = []
+    for name in sorted(more):
+        presences = ["optional", "default", "default"] + ["required"] * (more[name][2] != "optional")
+        fields.append((name, source.choice(types[more[name][1]]), source.choice(presences)))
+    return (kind, tuple(fields))
+
+
+def looser_format(source, writer):
+    """A format that reads what a writer writes in most cases, and may lose much of it: two definitions for each one."""
+    types = {name: [name + "x", name + "y"] for name in writer.names()}
+    raw = {}
+    for name in writer.names():
+        for own in types[name]:
+            raw[own] = looser_definition(source, writer.definitions[name], types)
+    root = writer.root + "x"
+    listings = Listing(Format(root, raw))
+    return Format(root, {name: with_values(source, raw[name], listings) for name in raw})
+
+
+def all_read(reader, writer, size, most=3000):
+    """What the reader makes of the writer's values: a list of tuples (value, what it is read as), in order.
+
+    The values are those of at most this size, or of a lesser one if there are too many; that size is returned, too.
+    """
+    listing = Listing(writer)
+    values = []
+    for part in range(1, size + 1):
+        more = in_order(listing.of_size(writer.root, part))
+        if len(values) + len(more) > most:
+            return [(value, plain_read(reader, reader.root, value)) for value in values], part - 1
+        values.extend(more)
+    return [(value, plain_read(reader, reader.root, value)) for value in values], size
+
+
+def lossy_pairs(seed, many):
+    """Random readers with writers that they can read in most cases, and of which they may lose much."""
+    source = random.Random(seed)
+    while many:
+        kinds = KINDS[1:] + ["record", "choice"] if source.random() < 0.8 else KINDS
+        writer = random_format(source, source.randint(2, 5), kinds)
+        if writer.of("d0")[0] in ("list", "record", "choice") and Listing(writer).up_to("d0", 5):
+            many -= 1
+            yield looser_format(source, writer), writer
+
+
+def in_others(root, definitions):
+    """A definition stood in others: tuples (formats by the definition called root, how a value stands in them)."""
+    rows = [
+        (("list", "in", 0, 9), lambda value: [value]), (("list", "in", 1, 1), lambda value: [value]),
+        (record(may("f", "in")), lambda value: {"f": value}), (record(need("f", "in")), lambda value: {"f": value}),
+        (choice(("t", "in")), lambda value: ("t", value)),
+        (record(may("f", "out1")), lambda value: {"f": [("t", value)]}),
+    ]
+    more = {"out1": ("list", "out2", 1, 2), "out2": choice(("t", "in"))}
+    for outer, wrap in rows:
+        yield Format("root", {**definitions, **more, "in": root, "root": outer}), wrap

@@ -45,6 +45,12 @@ INTERFACE = {
         "met_pairs": ["reader", "writer"], "certify": ["reader", "writer"],
         "is_certificate": ["reader", "writer", "certificate"],
     },
+    "sources": {"smallest_source": ["reader", "writer", "value"]},
+    "loss": {
+        "smallest_confusion": ["reader", "writer"], "is_lossless": ["reader", "writer"],
+        "dropped_fields": ["reader", "writer"], "unknown_tags": ["reader", "writer"],
+    },
+    "common": {"common_format": ["first", "second"]},
 }
 
 # What is defined in the body of each class, with the arguments.
@@ -140,6 +146,8 @@ class Files(unittest.TestCase):
                         allowed = LIBRARY.get(node.module, set())
                         self.assertTrue(node.module.startswith("formatfit.") or known_names(node) <= allowed)
                 self.assertNotIsInstance(node, (ast.Import, ast.Global, ast.AsyncFunctionDef))
+            # A parameter can be a function.
+            known |= {node.arg for node in ast.walk(tree) if isinstance(node, ast.arg)}
             for node in ast.walk(tree):
                 if isinstance(node, ast.Call) and isinstance(node.func, ast.Name):
                     with self.subTest(name=name, line=node.lineno):
