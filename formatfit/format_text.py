@@ -11,11 +11,12 @@ def format_text(form):
     """Return the canonical text of a format."""
     lines = [f"root {form.root}"]
     for name in form.names():
-        lines.append(f"{name} {_definition_text(form.of(name))}")
+        lines.append(f"{name} {definition_text(form.of(name))}")
     return "\n".join(lines)
 
 
-def _definition_text(definition):
+def definition_text(definition):
+    """Return the canonical text of a definition: its line without the name. Different ones have different texts."""
     if definition[0] == "record":
         return _joined("record", ", ".join([_field_text(field) for field in definition[1]]))
     if definition[0] == "choice":

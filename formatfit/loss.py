@@ -68,7 +68,8 @@ class Losses:
 
     def rules(self):
         """Return all rules."""
-        rules = {**second_rules(self.writer), **self.source_rules()}
+        rules = second_rules(self.writer)
+        rules.update(self.source_rules())
         self.least = solved(rules)
         for pair in self.pairs:
             rules[_later_key(pair[0], pair[1])] = self.rules_of_pair(pair)

@@ -96,7 +96,9 @@ def source_told(reader, writer, value):
     """Return ("value", the least source of a value), LARGE if that is too large, or NONE; the reader can read."""
     sources = Sources(reader, writer)
     key = sources.key_of(reader.root, writer.root, value)
-    return solved({**least_rules(writer), **sources.rules()})[key]
+    rules = least_rules(writer)
+    rules.update(sources.rules())
+    return solved(rules)[key]
 
 
 def smallest_source(reader, writer, value):

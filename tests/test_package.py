@@ -51,10 +51,35 @@ INTERFACE = {
         "dropped_fields": ["reader", "writer"], "unknown_tags": ["reader", "writer"],
     },
     "common": {"common_format": ["first", "second"]},
+    "likeness": {"is_same": ["first", "second"], "smallest_difference": ["first", "second"]},
+    "smaller": {"reached": ["form"], "classes": ["form"], "smaller_format": ["form"]},
+    "registry": {"Registry": ["promise", "scope"]},
+    "journal": {
+        "record_of": ["text"], "recovered": ["octets"], "Device": ["octets", "power"],
+        "JournaledRegistry": ["registry", "device"], "opened": ["promise", "scope", "octets", "power"],
+    },
 }
 
 # What is defined in the body of each class, with the arguments.
-METHODS = {("formats", "Format"): {"of": ["self", "name"], "names": ["self"]}}
+METHODS = {
+    ("formats", "Format"): {"of": ["self", "name"], "names": ["self"]},
+    ("registry", "Registry"): {
+        "count": ["self"], "admit": ["self", "form"], "withdraw": ["self"], "version": ["self", "number"],
+        "carry": ["self", "value", "start", "end"], "fork": ["self"],
+    },
+    ("journal", "Device"): {"append": ["self", "octet"]},
+    ("journal", "JournaledRegistry"): {"admit": ["self", "form"], "withdraw": ["self"]},
+}
+
+# The fields that are set when an object is created with these arguments.
+FIELDS = {
+    ("errors", "SignError"): ([3], ["place"]), ("errors", "LineError"): ([3], ["line"]),
+    ("errors", "BrokenPromise"): ([3], ["version"]), ("errors", "NoSuchVersion"): ([3], ["number"]),
+    ("errors", "PowerCut"): ([3], ["written"]), ("formats", "Format"): (["a", {}], ["root", "definitions"]),
+    ("registry", "Registry"): (["both", "all"], ["promise", "scope", "versions"]),
+    ("journal", "Device"): ([[], 1], ["octets", "power"]),
+    ("journal", "JournaledRegistry"): ([None, None], ["registry", "device", "shut"]),
+}
 
 # What may be imported from elsewhere.
 LIBRARY = {"heapq": {"heappush", "heappop"}}
@@ -115,6 +140,13 @@ class Interface(unittest.TestCase):
             for method, arguments in methods.items():
                 with self.subTest(file=file, name=name, method=method):
                     self.assertEqual(list(inspect.signature(found[method]).parameters), arguments)
+
+
+    def test_fields_are_set_when_an_object_is_created(self):
+        for (file, name), (arguments, fields) in FIELDS.items():
+            made = getattr(importlib.import_module("formatfit." + file), name)(*arguments)
+            with self.subTest(file=file, name=name):
+                self.assertEqual([field for field in fields if field not in vars(made)], [])
 
 
 class Files(unittest.TestCase):
